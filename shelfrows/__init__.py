@@ -1,0 +1,1 @@
+"""Shelfrows: rows of numbers past shelves, and how many greater ones stand ahead."""
