@@ -77,6 +77,22 @@ def past_with(row, word, places):
     return tuple(_let_past(row, word, places))
 
 
+def check_places(places, least=0):
+    """Refuse what is no number of places that one shelf may have."""
+    if not is_whole_within(places, least, MOST_PLACES):
+        raise NoPlaces(f"places are a whole number from {least} to {MOST_PLACES}")
+
+
+def let_on(standing, word, most):
+    """Take from what stands on a shelf what goes on till no more than most stand."""
+    gone = []
+    while len(standing) > most:
+        one = min(standing) if word == LIGHT else max(standing)
+        standing.remove(one)
+        gone.append(one)
+    return gone
+
+
 def _is_word(thing):
     return isinstance(thing, str) and thing in (LIGHT, HEAVY)
 
@@ -107,15 +123,5 @@ def _let_past(numbers, word, places):
     came = []
     for number, most in zip(numbers, places):
         standing.append(number)
-        came.extend(_let_on(standing, word, most))
-    return came + _let_on(standing, word, 0)
-
-
-def _let_on(standing, word, most):
-    """Take from what stands on a shelf what goes on till no more than most stand."""
-    gone = []
-    while len(standing) > most:
-        one = min(standing) if word == LIGHT else max(standing)
-        standing.remove(one)
-        gone.append(one)
-    return gone
+        came.extend(let_on(standing, word, most))
+    return came + let_on(standing, word, 0)

@@ -30,6 +30,15 @@ MARKED = (
 
 ROWS = UNMARKED + MARKED
 
+FALLING = [tuple(range(many, 0, -1)) for many in range(25)]
+
+# Rising rows, of which one number was taken out and put behind all.
+ONE_BEHIND = [
+    tuple(one for one in range(many) if one != last) + (last,)
+    for many in range(1, 25)
+    for last in range(many)
+]
+
 # ANY equals everything, and is yet no number, no word and no places.
 NOT_ROWS = [
     None, 5, 0, True, False, "", "12", b"12", [], [1, 2], [None], {}, {1: 2}, set(), {1}, range(3),
@@ -107,6 +116,24 @@ def near(ahead, row):
 
 def opposite_of(row):
     return tuple(None if thing is None else -thing for thing in row)
+
+
+def counts_with(row, places):
+    """Tell each number's count behind a light shelf with places that change, as [15] does."""
+    return {
+        one: max(
+            [0]
+            + [
+                sum(1 for other in row[:at + 1] if other > one) - places[at]
+                for at in range(place)
+            ]
+        )
+        for place, one in enumerate(row)
+    }
+
+
+def is_sorted(row):
+    return numbers_of(row) == sorted(numbers_of(row))
 
 
 def row_with(counts):

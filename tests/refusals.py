@@ -9,4 +9,4 @@ def assert_refused(case, error, call, *handed):
         except error as refusal:
             case.assertIs(type(refusal), error)
         else:
-            case.fail(f"not refused, but told: {told!r}")
+            case.fail(f"not refused, but told: {repr(told)[:200]}")

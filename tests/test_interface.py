@@ -21,6 +21,22 @@ FUNCTIONS = {
         "merged": ["line"],
         "past_with": ["row", "word", "places"],
     },
+    "needs": {
+        "needed": ["row"],
+        "places": ["row"],
+        "shelves": ["row", "places"],
+        "sorted_by": ["many", "places"],
+    },
+    "lettings": {
+        "comes_out": ["row", "places", "letting"],
+        "own_way": ["row", "places"],
+        "gained": ["row", "places", "letting"],
+    },
+    "ahead": {
+        "how_many": ["row", "places"],
+        "ahead": ["row", "places"],
+        "can_come": ["row", "places"],
+    },
 }
 
 

@@ -261,33 +261,20 @@ class TestPastWith(unittest.TestCase):
         ]:
             self.assertEqual(past_with(row, word, places), came)
 
-    def told_counts(self, row, places):
-        """Tell each number's count behind a light shelf with these places, as [15] does."""
-        return {
-            one: max(
-                [0]
-                + [
-                    sum(1 for other in row[:at + 1] if other > one) - places[at]
-                    for at in range(place)
-                ]
-            )
-            for place, one in enumerate(row)
-        }
-
     def test_the_count_behind_a_light_shelf(self):
         for row in plain.UNMARKED:
             for places in places_told(row):
                 came = past_with(row, "light", places)
                 self.assertIs(type(came), tuple)
                 self.assertEqual(sorted(came), sorted(row))
-                self.assertEqual(plain.greater_ahead(came), self.told_counts(row, places))
+                self.assertEqual(plain.greater_ahead(came), plain.counts_with(row, places))
 
     def test_the_count_of_lesser_ones_behind_a_heavy_shelf(self):
         for row in plain.UNMARKED:
             for places in places_told(row):
                 came = plain.opposite_of(past_with(row, "heavy", places))
                 self.assertEqual(sorted(plain.opposite_of(came)), sorted(row))
-                told = self.told_counts(plain.opposite_of(row), places)
+                told = plain.counts_with(plain.opposite_of(row), places)
                 self.assertEqual(plain.greater_ahead(came), told)
 
     def test_the_same_places_all_along_are_a_shelf(self):
