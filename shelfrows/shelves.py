@@ -40,7 +40,7 @@ def past(row, shelf):
 def through(row, line):
     """Tell the row that comes out behind all shelves of a line."""
     check_row(row)
-    _check_line(line)
+    check_line(line)
     came = row
     for shelf in line:
         came = past(came, shelf)
@@ -55,7 +55,7 @@ def moved(row, shelf):
 
 def merged(line):
     """Tell a line without empty shelves, and with shelves of one word put together."""
-    _check_line(line)
+    check_line(line)
     told = []
     for word, places in line:
         if places == 0:
@@ -75,6 +75,12 @@ def past_with(row, word, places):
     if not _are_places(places, len(row)):
         raise NoPlaces("there is one number of places, from 0 to 9, for each number")
     return tuple(_let_past(row, word, places))
+
+
+def check_line(line):
+    """Refuse what is no line."""
+    if not is_line(line):
+        raise NoLine("a line is a tuple of up to 8 shelves")
 
 
 def check_places(places, least=0):
@@ -110,11 +116,6 @@ def _are_places(thing, many):
 def _check_shelf(shelf):
     if not is_shelf(shelf):
         raise NoShelf("a shelf is a tuple of light or heavy, and places from 0 to 9")
-
-
-def _check_line(line):
-    if not is_line(line):
-        raise NoLine("a line is a tuple of up to 8 shelves")
 
 
 def _let_past(numbers, word, places):

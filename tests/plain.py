@@ -54,6 +54,10 @@ NOT_PLACES = [
     ANY,
 ]
 
+NOT_WHOLES = [
+    None, True, False, "1", "", b"1", (), (1,), [], [1], {}, {1: 1}, set(), range(1), object(), int, ANY,
+]
+
 NOT_WORDS = [
     None, True, 0, 1, "", "Light", "LIGHT", " light", "light ", "lights", "heav", "medium", b"light",
     ["light"], ("light",), {"light"}, {"light": 1}, object(), str,

@@ -1,4 +1,4 @@
-"""The names, arguments and files of the interface, as far as it has landed."""
+"""The names, arguments and files of the interface."""
 
 import importlib
 import inspect
@@ -37,6 +37,37 @@ FUNCTIONS = {
         "ahead": ["row", "places"],
         "can_come": ["row", "places"],
     },
+    "mending": {
+        "move": ["row", "one", "other"],
+        "mended": ["row"],
+    },
+    "blocks": {
+        "may_mark": ["row"],
+        "blocks": ["row"],
+        "off": ["row"],
+        "opposite": ["row"],
+        "need_just": ["many", "places"],
+    },
+    "texts": {
+        "row_text": ["row"],
+        "line_text": ["line"],
+        "read_row": ["text"],
+        "read_line": ["text"],
+    },
+}
+
+METHODS = {
+    "__init__": ["shelves"],
+    "come": ["number"],
+    "mark": [],
+    "finish": [],
+    "standing": [],
+    "out": [],
+    "back": [],
+    "twin": [],
+    "__len__": [],
+    "__str__": [],
+    "__eq__": ["other"],
 }
 
 
@@ -56,5 +87,18 @@ class TestInterface(unittest.TestCase):
             module = importlib.import_module("shelfrows." + name)
             for word in functions:
                 for one in inspect.signature(getattr(module, word)).parameters.values():
+                    self.assertEqual(one.kind, one.POSITIONAL_OR_KEYWORD)
+                    self.assertIs(one.default, one.empty)
+
+    def test_the_class_is_defined_in_lines_with_each_method_in_itself(self):
+        lines = importlib.import_module("shelfrows.lines")
+        self.assertTrue(inspect.isclass(lines.Line))
+        self.assertEqual(lines.Line.__module__, "shelfrows.lines")
+        for word, arguments in METHODS.items():
+            with self.subTest(method=word):
+                method = vars(lines.Line)[word]
+                self.assertTrue(inspect.isfunction(method))
+                self.assertEqual(list(inspect.signature(method).parameters)[1:], arguments)
+                for one in inspect.signature(method).parameters.values():
                     self.assertEqual(one.kind, one.POSITIONAL_OR_KEYWORD)
                     self.assertIs(one.default, one.empty)
